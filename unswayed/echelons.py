@@ -50,7 +50,7 @@ class Echelon:
         """The pairs of the first place and the row, of the reduced form of all rows, ascending."""
         tidied = Echelon(self.prime, self.wide)
         pairs = []
-        for spot, at in sorted([(spot, at) for at, spot in enumerate(self.spots)], reverse=True):
+        for spot, at in sorted([(place, at) for at, place in enumerate(self.spots)], reverse=True):
             row = tidied.rest(self.numbers_of(self.packs[at]))
             tidied.put(row)
             pairs.append((spot, row))

@@ -46,9 +46,10 @@ def pack_sum(one, other, prime):
 
 def pack_product(one, other, prime):
     """The product of two packs."""
+    few, many = (one, other) if len(one) < len(other) else (other, one)
     total = {}
-    for whole, number in one.items():
-        for more, factor in other.items():
+    for more, factor in few.items():
+        for whole, number in many.items():
             key = whole + more
             total[key] = total.get(key, 0) + number * factor
     return without_zeros(total, prime)

@@ -8,7 +8,6 @@ from unswayed.polys import check_poly
 from unswayed.tables import check_square
 
 MOST_FIELD = 60
-MOST_POWER = 10 ** 40
 
 
 class WideField:
@@ -72,7 +71,7 @@ def far_power(field, one, times):
     """The product of so many factors one."""
     check_field(field)
     check_far_number(field, one, "one")
-    if not is_within(times, 0, MOST_POWER):
+    if not is_within(times, 0, 10 ** 40):
         raise BadNumber("times")
     return far_many(one, times, field.modulus, field.prime)
 

@@ -1,0 +1,57 @@
+"""The names, arguments and places of the interface."""
+
+import importlib
+import inspect
+import unittest
+
+INTERFACE = {
+    "tables": {
+        "Table": "prime tall wide lines", "times": "one two", "plus": "one two", "scaled": "one number",
+        "plain": "prime size", "across": "one", "trace": "one"},
+    "solving": {
+        "tidy": "one", "rank": "one", "kernel": "one", "solved": "one goal", "determinant": "one", "inverse": "one"},
+    "polys": {
+        "Poly": "prime wide terms", "letter": "prime wide spot", "constant": "prime wide number",
+        "poly_sum": "one other", "poly_product": "one other", "poly_scaled": "one number",
+        "poly_power": "one times", "value_at": "one point", "is_level": "one", "layer_of": "one degree",
+        "rows_of": "wide degree"},
+    "putting": {"put_in": "one others", "slope": "one spot"},
+    "houses": {
+        "House": "prime wide tables", "is_mild": "house", "has_table": "house thing", "order_of": "table",
+        "house_led": "house table", "house_beside": "one other"},
+    "leadings": {
+        "moved": "table point", "led": "poly table", "orbit_of": "house point", "leading": "house one other",
+        "led_lot": "house poly", "is_unswayed": "house poly", "lot_sum": "house poly", "lot_product": "house poly"},
+    "means": {"mean": "house poly"},
+    "degrees": {"unswayed_of": "house degree", "count_of": "house degree", "led_table": "table degree"},
+    "forms": {"form_lot": "house form", "orbit_poly": "house form degree", "form_row": "house form point"},
+    "partings": {
+        "parting": "house one other", "is_parting": "house one other thing", "parting_degree": "house one other"},
+    "orbitcounts": {
+        "fixing": "house", "orbits_many": "house times", "orbit_sizes": "house times", "orbits": "house"},
+    "partlots": {
+        "part_degree": "house", "telling_degree": "house", "telling": "house numbers", "fewest_parting": "house",
+        "parts_all": "house polys"},
+    "widefields": {
+        "WideField": "prime degree", "far_sum": "field one other", "far_product": "field one other",
+        "far_power": "field one times", "far_undone": "field one", "far_value": "field poly point",
+        "far_moved": "field table point", "frobenius": "field point"},
+    "twisted": {
+        "exponent": "house", "house_field": "house", "twisted": "house table", "is_stable": "house point",
+        "straying": "house point", "far_parting": "house field one other", "stable_orbits": "house"},
+}
+
+
+class InterfaceTest(unittest.TestCase):
+    def test_names_and_arguments(self):
+        for module, names in INTERFACE.items():
+            there = importlib.import_module("unswayed." + module)
+            for name, arguments in names.items():
+                thing = getattr(there, name)
+                self.assertEqual(thing.__module__, "unswayed." + module, name)
+                self.assertEqual(inspect.isclass(thing), name[0].isupper(), name)
+                self.assertEqual(list(inspect.signature(thing).parameters), arguments.split(), name)
+
+
+if __name__ == "__main__":
+    unittest.main()
