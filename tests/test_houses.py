@@ -90,7 +90,7 @@ class HouseTest(ToolCase):
         for wide in (0, 4, -1) + NO_NUMBERS:
             self.refused(("BadHouse", "wide"), House, 5, wide, None)
         for tables in (None, 1, "ab", {}, one, [one, None], [one, 1], [plain(7, 2)], [plain(5, 3)], [[[1, 0], [0, 1]]],
-                       [table(5, [1, 2], [2, 4])], [Table(5, 2, 3, [[1, 0, 0], [0, 1, 0]])], [one, plain(5, 1)]):
+                       [table(5, [1, 2], [2, 4])], [Table(5, 3, 2, [[1, 0], [0, 1], [0, 0]])], [Table(5, 2, 3, [[1, 0, 0], [0, 1, 0]])], [one, plain(5, 1)]):
             self.refused(("BadHouse", "tables"), House, 5, 2, tables)
         self.refused(("BadHouse", "tables"), House, 97, 1, [table(97, [5]), table(97, [0])])
 
@@ -125,6 +125,7 @@ class JudgedTest(ToolCase):
             self.refused(("BadHouse", None), has_table, thing, None)
             self.refused(("BadHouse", None), house_led, thing, None)
             self.refused(("BadHouse", None), house_beside, thing, None)
+            self.refused(("BadHouse", None), house_beside, thing, trivial(5, 1))
             self.refused(("BadHouse", None), house_beside, trivial(5, 1), thing)
 
 
@@ -185,8 +186,10 @@ class LedTest(ToolCase):
 
     def test_wrong_tables(self):
         one = house(5, [[4, 0], [0, 4]])
-        for thing in NO_OBJECTS + (plain(7, 2), plain(5, 3), table(5, [1, 2], [2, 4]), Table(5, 2, 3, [[1, 0, 0]] * 2)):
+        for thing in NO_OBJECTS + (plain(7, 2), plain(5, 3), table(5, [1, 2], [2, 4]), Table(5, 2, 3, [[1, 0, 0]] * 2),
+                                   Table(5, 3, 2, [[1, 0], [0, 1], [0, 0]])):
             self.refused(("BadTable",), house_led, one, thing)
+            self.refused(("BadTable",), house_led, trivial(5, 2), thing)
 
 
 class BesideTest(ToolCase):

@@ -78,7 +78,8 @@ class LedTest(ToolCase):
         one = letter(5, 2, 0)
         for thing in NO_OBJECTS:
             self.refused(("BadPoly",), led, thing, None)
-        for thing in NO_OBJECTS + (plain(7, 2), plain(5, 3), Table(5, 2, 3, [[0] * 3] * 2), plain(5, 0)):
+        for thing in NO_OBJECTS + (plain(7, 2), plain(5, 3), Table(5, 2, 3, [[0] * 3] * 2), plain(5, 0),
+                                   Table(5, 3, 2, [[1, 0], [0, 1], [0, 0]])):
             self.refused(("BadTable",), led, one, thing)
 
 

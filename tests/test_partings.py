@@ -88,6 +88,11 @@ class PartingTest(ToolCase):
         self.refused(("TooMany", 300), parting_degree, one, [1, 0, 0], [2, 0, 0])
         self.assertEqual(parting(one, [1, 0, 0], [2, 0, 0]).degree, 25)
         self.assertEqual(parting_degree(house(23, [[5, 0, 0], [0, 5, 0], [0, 0, 5]]), [1, 2, 3], [2, 2, 3]), 22)
+        self.assertEqual(parting_degree(house(47, [[4, 0, 0], [0, 4, 0], [0, 0, 4]]), [1, 2, 3], [2, 2, 3]), 23)
+        number = pow(5, 3, 73)
+        one = house(73, [[number, 0, 0], [0, number, 0], [0, 0, number]])
+        self.assertEqual(one.size, 24)
+        self.refused(("TooMany", 300), parting_degree, one, [1, 2, 3], [2, 2, 3])
 
     def test_equal_results_for_equal_arguments(self):
         one = house(3, [[1, 1], [0, 1]], [[1, 0], [1, 1]])

@@ -69,6 +69,9 @@ class PolyTest(ToolCase):
 class MadeTest(ToolCase):
     def test_letter_and_constant(self):
         self.assertEqual(letter(5, 3, 1).terms, {(0, 1, 0): 1})
+        self.assertEqual(letter(5, 1, 0).terms, {(1,): 1})
+        self.assertEqual(constant(5, 1, 3).terms, {(0,): 3})
+        self.assertEqual(constant(5, 12, 3).terms, {(0,) * 12: 3})
         self.assertEqual(letter(prime=2, wide=12, spot=11).terms, {(0,) * 11 + (1,): 1})
         self.assertEqual(constant(5, 2, -1).terms, {(0, 0): 4})
         self.assertEqual(constant(prime=5, wide=2, number=10), ZERO)
@@ -147,6 +150,11 @@ class WorkTest(ToolCase):
         self.assertEqual(poly_product(high, Poly(5, 2, {(0, 59): 2})).terms, {(40, 80): 2})
         self.assertEqual(poly_product(high, ZERO), ZERO)
         self.refused(("TooMany", 120), poly_power, high, 2)
+        last = Poly(5, 2, {(0, 100): 1})
+        self.refused(("TooMany", 120), poly_product, last, last)
+        self.refused(("TooMany", 120), poly_power, last, 2)
+        self.refused(("TooMany", 120), poly_product, Poly(5, 2, {(0, 120): 1}), Poly(5, 2, {(0, 1): 1}))
+        self.assertEqual(poly_product(ZERO, Poly(5, 2, {(0, 120): 1})), ZERO)
         self.refused(("TooMany", 120), poly_power, Poly(2, 1, {(2,): 1}), 61)
         self.assertEqual(poly_power(Poly(2, 1, {(2,): 1}), 60).degree, 120)
 

@@ -32,8 +32,12 @@ class TableTest(ToolCase):
         self.assertEqual(Table(97, 60, 60, [[1] * 60] * 60).lines, ((1,) * 60,) * 60)
 
     def test_primes(self):
-        for prime in (2, 3, 5, 53, 89, 97):
-            self.assertEqual(Table(prime, 1, 1, [[prime + 1]]).lines, ((1,),))
+        for prime in range(-5, 130):
+            if prime > 1 and prime < 98 and all(prime % k for k in range(2, prime)):
+                self.assertEqual(Table(prime, 1, 1, [[prime + 1]]).lines, ((1,),))
+            else:
+                self.refused(("BadPrime",), Table, prime, 1, 1, [[1]])
+        self.refused(("BadPrime",), Table, 5.0, 1, 1, [[1]])
         for prime in NO_PRIMES + NO_NUMBERS:
             self.refused(("BadPrime",), Table, prime, 1, 1, [[1]])
             self.refused(("BadPrime",), Table, prime, None, None, None)

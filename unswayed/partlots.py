@@ -6,7 +6,7 @@ from unswayed.echelons import Echelon
 from unswayed.errors import BadNumber, BadPoly, TooMany
 from unswayed.houses import check_house
 from unswayed.kinds import are_numbers, is_list
-from unswayed.orbitcounts import check_points, orbits, orbits_many
+from unswayed.orbitcounts import orbits, orbits_many
 from unswayed.packs import MOST_DEGREE
 from unswayed.partings import climb_on, dot, is_unswayed_thing, row_values
 from unswayed.polys import constant, poly_scaled, poly_sum, value_at
@@ -73,10 +73,8 @@ def chosen_here(climb, points, echelon):
 
 def telling(house, numbers):
     """An unswayed Poly, of the least degree that does for all, that has these numbers at the orbits."""
-    check_house(house)
     if not are_numbers(numbers, orbits_many(house, 1)):
         raise BadNumber("numbers")
-    check_points(house)
     return told_by(house, tellers(house), [numbers])[0]
 
 

@@ -88,7 +88,7 @@ def poly_sum(one, other):
 def poly_product(one, other):
     """The product of two Polys."""
     check_pair(one, other)
-    if one.degree >= 0 and other.degree >= 0 and one.degree + other.degree > MOST_DEGREE:
+    if one.degree + other.degree > MOST_DEGREE:
         raise TooMany(MOST_DEGREE)
     pack = pack_product(pack_of(one.terms), pack_of(other.terms), one.prime)
     return poly_of_pack(one.prime, one.wide, pack)

@@ -11,7 +11,7 @@ from unswayed.orbitcounts import check_points
 from unswayed.packs import MOST_ROWS
 from unswayed.partings import climb_on, dot
 from unswayed.solving import kernel, tidy
-from unswayed.tables import MOST_LINES, Table, across, check_table
+from unswayed.tables import MOST_LINES, Table, across
 from unswayed.widefields import WideField, check_far_point, far_point_moved, frobenius
 
 
@@ -34,8 +34,6 @@ def house_field(house):
 
 def twisted(house, table):
     """The tidy list of far points of which those are sums that the table leads to their frobenius."""
-    check_house(house)
-    check_table(table)
     if not has_table(house, table):
         raise BadTable("a Table of the house is wanted")
     field = house_field(house)
