@@ -39,6 +39,23 @@ INTERFACE = {
     "twisted": {
         "exponent": "house", "house_field": "house", "twisted": "house table", "is_stable": "house point",
         "straying": "house point", "far_parting": "house field one other", "stable_orbits": "house"},
+    "rowsfar": {
+        "row_of": "house", "count_far": "house degree", "row_over": "house degrees", "first_unlike": "one other",
+        "row_tells": "wide row", "turned_row": "house", "reads_same": "house"},
+    "freelots": {"is_free_lot": "house thing", "free_lot": "house"},
+    "others": {"others_of": "house lot", "are_others": "house lot thing", "told_over": "house lot several poly"},
+    "mirrors": {
+        "is_mirror": "thing", "mirrors_of": "house", "mirror_form": "table", "mirror_way": "table",
+        "mirror_number": "table", "mirror_table": "form way number", "walls_of": "house", "wall_product": "house",
+        "mirror_house": "house", "is_mirrored": "house", "mirror_classes": "house"},
+    "slopes": {"slope_determinant": "polys", "divided": "one other"},
+    "alone": {
+        "is_alone_lot": "house thing", "alone_lot": "house", "alone_degrees": "house", "more_degree": "house",
+        "needed_of": "house degree", "told_alone": "house lot poly"},
+    "inner": {
+        "is_inner": "house other", "common_house": "one other", "joined_house": "one other", "keeper": "house poly",
+        "point_keeper": "house point", "inner_houses": "house", "inner_classes": "house", "index_of": "house inner",
+        "share_tables": "house inner"},
 }
 
 

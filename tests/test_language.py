@@ -11,6 +11,7 @@ ROOT = os.path.join(os.path.dirname(os.path.dirname(os.path.abspath(__file__))),
 LIBRARY = {
     "math": {"gcd", "lcm", "isqrt", "comb", "perm", "factorial"},
     "itertools": {"product", "combinations", "permutations"},
+    "heapq": {"heappush", "heappop", "heapify", "heapreplace", "heappushpop"},
 }
 BUILTINS = set("""len range enumerate zip min max sum abs sorted reversed int str bool list tuple dict set
 isinstance ord repr any all divmod pow ValueError""".split())
@@ -26,7 +27,8 @@ BARRED_NODES = (
     ast.GeneratorExp, ast.Lambda, ast.Global, ast.Nonlocal, ast.AsyncFunctionDef, ast.Import, ast.Set, ast.SetComp,
     ast.Try, ast.With, ast.Yield, ast.YieldFrom, ast.Div, ast.MatMult, ast.NamedExpr, ast.JoinedStr, ast.AnnAssign)
 AT_ONCE = {"zip", "enumerate", "reversed", "range", "items", "keys", "values"}
-TAKING = {"list", "tuple", "dict", "sorted", "sum", "any", "all", "enumerate", "zip"}
+TAKING = {
+    "list", "tuple", "dict", "sorted", "sum", "any", "all", "enumerate", "zip", "product", "combinations", "permutations"}
 
 
 def files():

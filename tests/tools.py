@@ -4,7 +4,7 @@ import itertools
 import random
 import unittest
 
-from unswayed.houses import House
+from unswayed.houses import House, house_beside, house_led
 from unswayed.polys import Poly
 from unswayed.tables import Table
 
@@ -81,6 +81,44 @@ def all_houses():
     return {**small_houses(), **large_houses()}
 
 
+def drawn_table(prime, wide, seed):
+    """A table with an inverse."""
+    chance = random.Random(seed)
+    while True:
+        lines = [[chance.randrange(prime) for _ in range(wide)] for _ in range(wide)]
+        if slow_rank(lines, prime) == wide:
+            return table(prime, *lines)
+
+
+def drawn_houses():
+    """The small houses in drawn other coordinates."""
+    return {
+        "drawn " + name: house_led(one, drawn_table(one.prime, one.wide, name))
+        for name, one in small_houses().items()}
+
+
+def houses_beside():
+    """Houses beside one another."""
+    found = {
+        "signs 5 2": house_beside(house(5, [[4]]), house(5, [[4]])),
+        "scales 13 2": house_beside(house(13, [[5]]), house(13, [[3]])),
+        "scale and round 7 3": house_beside(house(7, [[2]]), house(7, [[0, 6], [1, 0]])),
+        "signed and sign 5 3": house_beside(house(5, [[0, 1], [1, 0]], [[4, 0], [0, 1]]), house(5, [[4]])),
+        "minus and minus 5 3": house_beside(house(5, [[4, 0], [0, 4]]), house(5, [[4]])),
+        "shear and sign 3 3": house_beside(house(3, [[1, 1], [0, 1]]), house(3, [[2]])),
+        "two scales 97 3": house_beside(house(97, [[22]]), house(97, [[1, 0], [0, 35]])),
+    }
+    return {name: found[name] for name in sorted(found)}
+
+
+def many_houses():
+    return {**all_houses(), **drawn_houses(), **houses_beside()}
+
+
+def mild_houses():
+    return {name: one for name, one in many_houses().items() if one.size % one.prime}
+
+
 def all_points(prime, wide):
     return list(itertools.product(range(prime), repeat=wide))
 
@@ -119,6 +157,11 @@ def some_table(prime, tall, wide, seed):
     return Table(prime, tall, wide, [[chance.randrange(prime) for _ in range(wide)] for _ in range(tall)])
 
 
+def letters(prime, wide):
+    """The unknowns."""
+    return [Poly(prime, wide, {tuple(int(k == at) for k in range(wide)): 1}) for at in range(wide)]
+
+
 def slow_value(poly, point):
     total = 0
     for row, number in poly.terms.items():
@@ -149,6 +192,41 @@ def slow_rank(lines, prime):
             lines = [
                 [(x - other[spots[0]] * factor * y) % prime for x, y in zip(other, line)] for other in lines]
     return found
+
+
+def slow_determinant(lines):
+    """The determinant of a list of lists of numbers, not reduced, along the first line."""
+    if not lines:
+        return 1
+    return sum(
+        (-1) ** at * number * slow_determinant([line[:at] + line[at + 1:] for line in lines[1:]])
+        for at, number in enumerate(lines[0]))
+
+
+def slow_times(one, two):
+    lines = [[sum(x * y for x, y in zip(line, column)) for column in zip(*two.lines)] for line in one.lines]
+    return Table(one.prime, one.tall, two.wide, lines)
+
+
+def slow_order(one):
+    """The least number of factors that give plain."""
+    start = [[int(at == k) for k in range(one.wide)] for at in range(one.wide)]
+    many, power = 1, one
+    while [list(line) for line in power.lines] != start:
+        many, power = many + 1, slow_times(power, one)
+    return many
+
+
+def slow_undone(one):
+    """The inverse of a table, as the last power of it ahead of plain."""
+    many, power = slow_order(one), one
+    for _ in range(many - 2):
+        power = slow_times(power, one)
+    return power
+
+
+def is_slow_mirror(one):
+    return slow_rank([[x - int(at == k) for k, x in enumerate(line)] for at, line in enumerate(one.lines)], one.prime) == 1
 
 
 def slow_product(one, other):

@@ -9,13 +9,15 @@ class Climb:
     """The rows of the present degree, and for each table the Polys to which it leads them.
 
     images has for each table one list for each row: the numbers of the Poly to which the
-    row is led, in the sequence of rows. tables are told by their lines.
+    row is led, in the sequence of rows. tables are told by their lines, and factors has
+    for each table the number by which it may change what is asked for: 1 for what is unswayed.
     """
 
-    def __init__(self, prime, wide, tables):
+    def __init__(self, prime, wide, tables, factors):
         self.prime = prime
         self.wide = wide
         self.tables = tables
+        self.factors = factors
         self.degree = 0
         self.rows = level_rows(wide, 0)
         self.images = [[[1]] for _ in tables]
@@ -33,21 +35,21 @@ class Climb:
         self.rows = rows
 
     def equations(self):
-        """The rows of numbers that lead just the unswayed Polys of the present degree to 0."""
+        """The rows of numbers that lead just the Polys of the present degree to 0 that change by the factors alone."""
         found = []
-        for images in self.images:
+        for images, factor in zip(self.images, self.factors):
             for at in range(len(self.rows)):
                 equation = [image[at] for image in images]
-                equation[at] = equation[at] - 1
+                equation[at] = equation[at] - factor
                 found.append(equation)
         return found
 
     def unswayed_count(self):
-        """How many independent Polys of the present degree no table changes."""
+        """How many independent Polys of the present degree the tables change by the factors alone."""
         return len(self.rows) - len(echelon_of(self.prime, len(self.rows), self.equations()).spots)
 
     def unswayed(self):
-        """The tidy list of the numbers, one for each row, of the Polys that no table changes."""
+        """The tidy list of the numbers of the Polys that the tables change by the factors alone, one for each row."""
         return tidy_zeros(self.prime, len(self.rows), self.equations())
 
     def poly(self, numbers):
@@ -86,7 +88,7 @@ def image_above(image, line, steps, prime):
 
 def climb_to(prime, wide, tables, degree):
     """The Climb of tables, told by their lines, at this degree."""
-    climb = Climb(prime, wide, tables)
+    climb = Climb(prime, wide, tables, [1] * len(tables))
     for _ in range(degree):
         climb.up()
     return climb
@@ -95,3 +97,24 @@ def climb_to(prime, wide, tables, degree):
 def house_climb(house, degree):
     """The Climb of some tables of the house that leave alone what all leave alone, at this degree."""
     return climb_to(house.prime, house.wide, [table.lines for table in house.few], degree)
+
+
+def toll_climb(house, toll):
+    """The Climb, at degree 0, of what the tables of the house change by the toll's numbers alone."""
+    factors = [toll[house.tables.index(table)] for table in house.few]
+    return Climb(house.prime, house.wide, [table.lines for table in house.few], factors)
+
+
+class Spaces:
+    """The tidy lists of the numbers of what a house changes by a toll's numbers alone, degree by degree."""
+
+    def __init__(self, house, toll):
+        self.climb = toll_climb(house, toll)
+        self.lists = [self.climb.unswayed()]
+
+    def of(self, degree):
+        """The tidy list of this degree."""
+        while len(self.lists) <= degree:
+            self.climb.up()
+            self.lists.append(self.climb.unswayed())
+        return self.lists[degree]

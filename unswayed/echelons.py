@@ -18,6 +18,13 @@ class Echelon:
         self.spots = []
         self.packs = []
 
+    def another(self):
+        """An Echelon with the same rows, to which others can be put."""
+        copied = Echelon(self.prime, self.wide)
+        copied.spots = list(self.spots)
+        copied.packs = list(self.packs)
+        return copied
+
     def rest(self, numbers):
         """The row less multiples of the kept ones, with 0 at all their first places."""
         mask = (1 << self.bits) - 1
