@@ -56,6 +56,26 @@ INTERFACE = {
         "is_inner": "house other", "common_house": "one other", "joined_house": "one other", "keeper": "house poly",
         "point_keeper": "house point", "inner_houses": "house", "inner_classes": "house", "index_of": "house inner",
         "share_tables": "house inner"},
+    "tolls": {
+        "is_toll": "house thing", "tolls_of": "house", "determinant_toll": "house", "toll_product": "house one other",
+        "toll_back": "house toll", "untolled": "house", "is_tolled": "house toll poly", "toll_of": "house poly",
+        "tolled_of": "house toll degree", "toll_mean": "house toll poly"},
+    "tollrows": {
+        "toll_row": "house toll", "toll_far": "house toll degree", "toll_others": "house lot toll",
+        "are_toll_others": "house lot toll thing", "told_toll": "house lot toll several poly"},
+    "tollforms": {"toll_form": "house toll", "form_toll": "house toll"},
+    "rests": {
+        "left_rows": "house degree", "rest_of": "house poly", "rest_table": "house table degree", "rest_row": "house",
+        "toll_makers": "house toll"},
+    "slants": {
+        "picks_of": "wide grade", "Slant": "prime wide grade parts", "slant_sum": "one other",
+        "slant_scaled": "slant poly", "slant_product": "one other", "poly_slant": "poly", "slope_slant": "slant",
+        "drop_slant": "slant", "slant_led": "slant table"},
+    "slanthouses": {
+        "is_unswayed_slant": "house slant", "slants_of": "house grade degree", "slant_mean": "house slant",
+        "raised": "house slant", "slant_row": "house grade", "slant_far": "house grade degree"},
+    "slantlots": {"lot_slants": "house lot grade", "told_slant": "house lot slant"},
+    "families": {"is_family": "thing", "family_size": "word", "family_house": "word"},
 }
 
 

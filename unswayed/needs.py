@@ -19,21 +19,24 @@ class Needs:
         self.degree = 0
         # Pairs of the degree and the great number.
         self.makers = []
-        self.packs = [[]]
+        # For each degree the great numbers of the tidy list.
+        self.wholes = [[]]
 
     def up(self):
         """Goes on to the next degree."""
         self.degree = self.degree + 1
         rows = self.spaces.of(self.degree)
         echelon = Echelon(self.levels.prime, row_count(self.levels.wide, self.degree))
-        for degree, maker in self.makers:
-            for whole in self.packs[self.degree - degree]:
-                # As soon as all unswayed Polys of this degree are made, nothing more can come of products.
-                if len(echelon.spots) < len(rows):
-                    echelon.put(self.levels.unpack(maker * whole, self.degree))
-        packs = [self.levels.pack(row, self.degree) for row in rows]
-        self.makers = self.makers + [(self.degree, pack) for row, pack in zip(rows, packs) if echelon.put(row)]
-        self.packs.append(packs)
+        pairs = [(maker, whole) for degree, maker in self.makers for whole in self.wholes[self.degree - degree]]
+        for maker, whole in pairs:
+            # As soon as all unswayed Polys of this degree are made, nothing more can come of products.
+            if len(echelon.spots) == len(rows):
+                break
+            echelon.put(self.levels.unpack(maker * whole, self.degree))
+        wholes = [self.levels.pack(row, self.degree) for row in rows]
+        needed = [(self.degree, whole) for row, whole in zip(rows, wholes) if echelon.put(row)]
+        self.makers = self.makers + needed
+        self.wholes.append(wholes)
 
     def polys(self):
         """The needed Polys."""

@@ -77,16 +77,30 @@ def pack_power(one, times, prime):
 
 def pack_put(terms, others, prime):
     """What comes of the dict of rows when the packs others are put in for its unknowns."""
-    return put_from(terms, others, 0, prime)
+    last = len(others) - 1
+    powers = pack_powers(others[last], sorted({row[last]: True for row in terms}), prime)
+    return put_from(terms, others, 0, powers, prime)
 
 
-def put_from(terms, others, spot, prime):
+def pack_powers(one, exponents, prime):
+    """The dict from each of the ascending exponents to the power of a pack."""
+    powers = {}
+    power = {0: 1}
+    below = 0
+    for exponent in exponents:
+        power = pack_product(power, pack_power(one, exponent - below, prime), prime)
+        powers[exponent] = power
+        below = exponent
+    return powers
+
+
+def put_from(terms, others, spot, powers, prime):
     """What comes of the dict of rows when the packs from spot on are put in for the unknowns from spot on.
 
-    All rows of terms have the same exponents before spot.
+    All rows of terms have the same exponents before spot; powers are those of the last pack.
     """
-    if spot == len(others):
-        return {0: number for number in list(terms.values())}
+    if spot == len(others) - 1:
+        return sum_of_multiples([(powers[row[spot]], number) for row, number in terms.items()], prime)
     parts = {}
     for row, number in terms.items():
         parts.setdefault(row[spot], {})[row] = number
@@ -94,9 +108,18 @@ def put_from(terms, others, spot, prime):
     above = 0
     for exponent in sorted(parts, reverse=True):
         total = pack_product(total, pack_power(others[spot], above - exponent, prime), prime) if total else {}
-        total = pack_sum(total, put_from(parts[exponent], others, spot + 1, prime), prime)
+        total = pack_sum(total, put_from(parts[exponent], others, spot + 1, powers, prime), prime)
         above = exponent
     return pack_product(total, pack_power(others[spot], above, prime), prime)
+
+
+def sum_of_multiples(pairs, prime):
+    """The sum of some packs, each times a number."""
+    total = {}
+    for pack, factor in pairs:
+        for whole, number in pack.items():
+            total[whole] = total.get(whole, 0) + number * factor
+    return without_zeros(total, prime)
 
 
 def row_count(wide, degree):
