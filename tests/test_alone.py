@@ -188,6 +188,19 @@ class AloneTest(ToolCase):
             if found.degree == wall_product(one).degree and found.degree >= 0:
                 self.assertIs(is_alone_lot(one, lot), True, name)
 
+    def test_products_of_degrees_that_are_the_size(self):
+        seen = {True: 0, False: 0}
+        for name, one in many_houses().items():
+            most = min(one.size, 12 if one.wide < 3 else 6)
+            found = [poly for degree in range(1, most + 1) for poly in unswayed_of(one, degree)[:3]]
+            lots = [lot for lot in itertools.combinations(found, one.wide) if product_of(degrees_of(lot)) == one.size]
+            for lot in lots[:6]:
+                told = is_alone_lot(one, lot)
+                seen[told] += 1
+                self.assertEqual(told, is_free_lot(one, lot), name)
+                self.assertEqual(told, slope_determinant(lot).degree >= 0, name)
+        self.assertTrue(min(seen.values()) > 20, seen)
+
     def test_multiples_of_orders(self):
         for name, one in many_houses().items():
             degrees = alone_degrees(one)

@@ -10,6 +10,7 @@ from unswayed.degrees import unswayed_of
 from unswayed.freelots import free_lot, is_free_lot
 from unswayed.houses import house_led
 from unswayed.leadings import led
+from unswayed.lotsearch import factors_at, line_lot, space_lot
 from unswayed.polys import Poly, constant, poly_power, poly_product, poly_scaled, poly_sum
 from unswayed.widefields import WideField, far_value
 
@@ -158,6 +159,44 @@ class FreeLotTest(ToolCase):
             self.assertTrue(slow_free(lot), name)
             degrees = [poly.degree for poly in lot]
             self.assertTrue(sum(degrees) <= 25 if one.wide == 3 else max(degrees) <= 96, (name, degrees))
+
+    def test_products_of_forms_do_always(self):
+        # What is told where the search finds nothing.
+        for name, one in many_houses().items():
+            if one.wide == 2:
+                lot = line_lot(one)
+                self.assertTrue(is_free_lot(one, lot), name)
+                self.assertLessEqual(max(poly.degree for poly in lot), 96)
+
+    def test_all_sums_of_multiples_are_tried(self):
+        for prime, size in ((2, 1), (2, 4), (3, 3), (5, 2)):
+            found = []
+            while factors_at(prime, size, len(found)) is not None:
+                found.append(factors_at(prime, size, len(found)))
+            firsts = [tuple(each) for each in found if [number for number in each if number][0] == 1]
+            self.assertEqual(len(set(firsts)), (prime ** size - 1) // (prime - 1))
+
+    def test_small_sums_of_degrees(self):
+        # All lots of such degrees, tried one by one.
+        for one in (house(2, [[0, 1, 0], [1, 0, 0], [0, 0, 1]], [[0, 1, 0], [0, 0, 1], [1, 0, 0]]),
+                    house(2, [[0, 0, 1], [1, 0, 1], [0, 1, 0]]), small_houses()["triangles 2 3"],
+                    house(2, [[1, 1, 0], [0, 1, 1], [0, 0, 1]]), house(3, [[0, 2, 0], [1, 0, 0], [0, 0, 2]])):
+            for most in range(3, 8):
+                polys = [poly for degree in range(1, most - 1) for poly in self.all_polys(one, degree)]
+                lots = [lot for lot in itertools.combinations(polys, 3) if sum(poly.degree for poly in lot) <= most]
+                if len(lots) < 3000:
+                    self.assertEqual(space_lot(one, most) is not None, any(is_free_lot(one, lot) for lot in lots))
+
+    def all_polys(self, one, degree):
+        found = []
+        tidy = unswayed_of(one, degree)
+        for numbers in itertools.product(range(one.prime), repeat=len(tidy)):
+            total = constant(one.prime, one.wide, 0)
+            for number, poly in zip(numbers, tidy):
+                total = poly_sum(total, poly_scaled(poly, number))
+            if total.terms and [number for number in numbers if number][0] == 1:
+                found.append(total)
+        return found
 
     def test_large_houses_of_2_unknowns(self):
         for prime, lines in ((97, [[25, 0], [0, 25]]), (97, [[25, 0], [0, 1]]), (47, [[0, 46], [1, 7]]),

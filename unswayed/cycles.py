@@ -59,7 +59,7 @@ def root_powers(prime, order):
         powers = [far_plain(1, degree)]
         for _ in range(order - 1):
             powers.append(far_times(powers[-1], root, field.modulus, prime))
-        # A power that comes twice makes all that follow come twice, too: the last one would be 1 or earlier.
+        # With a lesser order 1 would come up again among the powers.
         if powers.count(powers[0]) == 1:
             return field, powers
         at += 1

@@ -6,7 +6,7 @@ with the toll of numbers 1 these are the unswayed ones.
 
 from unswayed.climbs import toll_climb
 from unswayed.cycles import lessened_row, row_for
-from unswayed.echelons import Echelon, echelon_of
+from unswayed.echelons import echelon_of
 from unswayed.errors import TooMany
 from unswayed.kinds import is_list
 from unswayed.levels import Levels, told_in
@@ -20,31 +20,45 @@ def counts_over(house, lot, toll):
     return lessened_row(house.wide, row, [poly.degree for poly in lot])
 
 
+class Choice:
+    """What others of the present degree are chosen among, and what they must be independent of."""
+
+    def __init__(self, house, lot, toll, most):
+        self.levels = Levels(house.prime, house.wide, most)
+        self.layers = lot_layers(self.levels, lot, most)
+        self.climb = toll_climb(house, toll)
+
+    def go_to(self, degree):
+        """Goes on to this degree, which is not below the present one."""
+        while self.climb.degree < degree:
+            self.climb.up()
+
+    def taken(self, lower):
+        """The Echelon of all products, of the present degree, of others of lower degrees and Polys of the lot."""
+        pairs = products_of(self.levels, self.layers, lower, self.climb.degree)
+        return echelon_of(self.levels.prime, len(self.climb.rows), [vector for _, vector in pairs])
+
+
 def found_others(house, lot, toll):
     """Others for the lot, by degrees; TooMany(120) if one of them has a higher degree."""
     counts = counts_over(house, lot, toll)
     if len(counts) > MOST_DEGREE + 1:
         raise TooMany(MOST_DEGREE)
-    levels = Levels(house.prime, house.wide, len(counts))
-    layers = lot_layers(levels, lot, len(counts))
-    climb = toll_climb(house, toll)
+    choice = Choice(house, lot, toll, len(counts))
     found = []
     for degree, many in enumerate(counts):
-        if degree:
-            climb.up()
         if many:
-            echelon = Echelon(house.prime, len(climb.rows))
-            for _, vector in products_of(levels, layers, found, degree):
-                echelon.put(vector)
-            chosen = [numbers for numbers in climb.unswayed() if echelon.put(numbers)]
-            found = found + [levels.poly(numbers, degree) for numbers in chosen]
+            choice.go_to(degree)
+            taken = choice.taken(found)
+            chosen = [numbers for numbers in choice.climb.unswayed() if taken.put(numbers)]
+            found = found + [choice.climb.poly(numbers) for numbers in chosen]
     return found
 
 
 def lot_layers(levels, lot, most):
     """For each degree up to most the dict from the rows of exponents to the products of the lot of this degree."""
     layers = [{(0,) * len(lot): 1}]
-    packs = [levels.pack_of(poly) for poly in lot]
+    packs = [levels.pack_of(poly) if poly.degree <= most else 0 for poly in lot]
     for degree in range(1, most + 1):
         layer = {}
         for spot, (poly, pack) in enumerate(zip(lot, packs)):
@@ -82,18 +96,13 @@ def are_found_others(house, lot, toll, thing):
         return False
     if not all([degrees.count(degree) == many for degree, many in enumerate(counts)]):
         return False
-    levels = Levels(house.prime, house.wide, len(counts))
-    layers = lot_layers(levels, lot, len(counts))
-    climb = toll_climb(house, toll)
+    choice = Choice(house, lot, toll, len(counts))
     lower = []
     for degree, many in enumerate(counts):
-        if degree:
-            climb.up()
         if many:
+            choice.go_to(degree)
             items = [item for item in thing if item.degree == degree]
-            rows = [levels.numbers_of(item, degree) for item in items]
-            taken = [vector for _, vector in products_of(levels, layers, lower, degree)]
-            if not are_chosen(climb, taken, rows):
+            if not are_chosen(choice, lower, items):
                 return False
             lower = lower + items
     return True
@@ -106,13 +115,15 @@ def is_level_poly(house, thing):
     return is_level(thing)
 
 
-def are_chosen(climb, taken, rows):
-    """Whether the rows are among what the climb looks for, and independent of one another and of what is taken."""
+def are_chosen(choice, lower, items):
+    """Whether items are among what others are chosen among, and independent of one another and of what is taken."""
+    climb = choice.climb
+    rows = [choice.levels.numbers_of(item, climb.degree) for item in items]
     within = echelon_of(climb.prime, len(climb.rows), climb.unswayed())
     if any([any(within.rest(row)) for row in rows]):
         return False
-    echelon = echelon_of(climb.prime, len(climb.rows), taken)
-    return all([echelon.put(row) for row in rows])
+    taken = choice.taken(lower)
+    return all([taken.put(row) for row in rows])
 
 
 def check_layers(poly):

@@ -1,11 +1,11 @@
 """Tolls: the numbers by which the tables of a house may change a polynomial."""
 
 from unswayed.climbs import toll_climb
-from unswayed.counting import undone
+from unswayed.counting import power_of, undone
 from unswayed.cycles import check_mild
 from unswayed.degrees import check_degree
 from unswayed.errors import BadToll
-from unswayed.houses import House, check_house
+from unswayed.houses import House, check_house, order_of
 from unswayed.kinds import is_within
 from unswayed.leadings import check_house_poly, led
 from unswayed.polys import check_poly, poly_scaled, poly_sum
@@ -60,8 +60,10 @@ def tolls_of(house):
     check_house(house)
     lots = [()]
     # Table by table: what does not fit for the first ones need not be looked at any more.
-    for _ in house.few:
-        lots = [lot + (number,) for lot in lots for number in range(1, house.prime)]
+    for table in house.few:
+        order = order_of(table)
+        numbers = [number for number in range(1, house.prime) if power_of(number, order) % house.prime == 1]
+        lots = [lot + (number,) for lot in lots for number in numbers]
         lots = [lot for lot in lots if values_from(house, lot) is not None]
     return sorted([toll_from(house, lot) for lot in lots])
 
