@@ -3,9 +3,8 @@
 import itertools
 import unittest
 
-from tests.test_others import slow_put
 from tests.tools import (
-    NO_NUMBERS, NO_OBJECTS, ToolCase, all_rows, house, is_slow_mirror, letters, many_houses, signed, slow_product,
+    NO_NUMBERS, NO_OBJECTS, ToolCase, all_rows, house, is_slow_mirror, letters, many_houses, signed, slow_product, slow_put,
     slow_rank, small_houses, some_points, some_poly, table, trivial)
 from unswayed.alone import alone_degrees, alone_lot, is_alone_lot, more_degree, needed_of, told_alone
 from unswayed.degrees import count_of, unswayed_of

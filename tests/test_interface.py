@@ -76,6 +76,42 @@ INTERFACE = {
         "raised": "house slant", "slant_row": "house grade", "slant_far": "house grade degree"},
     "slantlots": {"lot_slants": "house lot grade", "told_slant": "house lot slant"},
     "families": {"is_family": "thing", "family_size": "word", "family_house": "word"},
+    "familylots": {
+        "family_lot": "word", "family_others": "word", "family_count": "word degree", "family_told": "word poly"},
+    "makers": {
+        "makers_of": "house lot", "are_makers": "house lot thing", "are_fewest": "house lot thing",
+        "written": "house lot makers poly"},
+    "equations": {
+        "equations_of": "house lot makers", "are_equations": "house lot makers thing",
+        "followed": "house lot makers several poly"},
+    "solutions": {"solutions_of": "prime wide polys", "source_of": "house lot makers numbers"},
+    "powersums": {
+        "power_sum": "house form times", "spread_of": "house form", "as_power_sums": "house poly",
+        "power_makers": "house lot"},
+    "lotparts": {"lot_parting": "one other", "is_lot_parting": "one other thing"},
+    "ownpolys": {
+        "kept_number": "house inner degree", "own_degree": "house inner", "own_poly": "house inner"},
+    "steps": {
+        "led_equation": "house poly", "step_poly": "house inner polys", "is_step": "house inner polys",
+        "step_told": "house inner polys poly", "mean_over": "house inner poly", "more_of": "house inner degree"},
+    "placed": {"kept_points": "house inner times", "placed_orbits": "house times"},
+    "changes": {
+        "sign_of": "table", "signs_of": "house", "change": "one other", "is_change": "one other thing",
+        "what_parts": "one other"},
+    "live": {"is_deed": "thing", "LiveHouse": "prime wide"},
+    "texts": {"house_text": "house", "house_of_text": "text", "poly_text": "poly", "poly_of_text": "text"},
+    "deedtexts": {"deed_text": "deed", "deed_of_text": "prime wide text"},
+    "journals": {"journal_text": "live", "led_live": "text"},
+    "desk": {"Desk": "prime wide"},
+}
+METHODS = {
+    ("live", "LiveHouse"): {
+        "do": "deed", "deeds": "", "undo": "", "redo": "", "watch_poly": "name poly", "watch_point": "name point",
+        "unwatch": "name", "told": "", "together": "", "mark": "name", "marks": "", "marked": "name", "since": "name"},
+    ("desk", "Desk"): {"say": "line"},
+}
+ATTRIBUTES = {
+    ("live", "LiveHouse"): "prime wide makers house standing", ("desk", "Desk"): "live",
 }
 
 
@@ -88,6 +124,18 @@ class InterfaceTest(unittest.TestCase):
                 self.assertEqual(thing.__module__, "unswayed." + module, name)
                 self.assertEqual(inspect.isclass(thing), name[0].isupper(), name)
                 self.assertEqual(list(inspect.signature(thing).parameters), arguments.split(), name)
+
+    def test_methods_stand_in_their_class(self):
+        for (module, name), methods in METHODS.items():
+            there = getattr(importlib.import_module("unswayed." + module), name)
+            for method, arguments in methods.items():
+                self.assertIn(method, vars(there), name)
+                self.assertEqual(list(inspect.signature(vars(there)[method]).parameters), ["self"] + arguments.split(), method)
+
+    def test_attributes_are_set_when_an_object_is_created(self):
+        for (module, name), words in ATTRIBUTES.items():
+            thing = getattr(importlib.import_module("unswayed." + module), name)(5, 2)
+            self.assertLessEqual(set(words.split()), set(vars(thing)), name)
 
 
 if __name__ == "__main__":

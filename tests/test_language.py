@@ -25,7 +25,7 @@ breakpoint builtins compile copyright credits delattr dir eval exec exit gc glob
 locals methodcaller os quit super type vars sys""".split())
 BARRED_NODES = (
     ast.GeneratorExp, ast.Lambda, ast.Global, ast.Nonlocal, ast.AsyncFunctionDef, ast.Import, ast.Set, ast.SetComp,
-    ast.Try, ast.With, ast.Yield, ast.YieldFrom, ast.Div, ast.MatMult, ast.NamedExpr, ast.JoinedStr, ast.AnnAssign)
+    ast.With, ast.Yield, ast.YieldFrom, ast.Div, ast.MatMult, ast.NamedExpr, ast.AnnAssign)
 AT_ONCE = {"zip", "enumerate", "reversed", "range", "items", "keys", "values"}
 TAKING = {
     "list", "tuple", "dict", "sorted", "sum", "any", "all", "enumerate", "zip", "product", "combinations", "permutations"}
@@ -96,6 +96,37 @@ class LanguageTest(unittest.TestCase):
                             self.assertIsInstance(right, ast.Constant, (name, node.lineno))
                 if isinstance(node, ast.Starred):
                     self.assertIsInstance(node.value, (ast.Name, ast.Attribute), (name, node.lineno))
+
+    def test_handlers_catch_own_errors_by_name(self):
+        own = {name for name, tree in trees() if name == "errors.py" for name in self.defined(tree)}
+        for name, tree in trees():
+            for node in ast.walk(tree):
+                if isinstance(node, ast.Try):
+                    self.assertEqual((node.finalbody, node.orelse), ([], []), (name, node.lineno))
+                    for handler in node.handlers:
+                        caught = handler.type.elts if isinstance(handler.type, ast.Tuple) else [handler.type]
+                        self.assertLessEqual({one.id for one in caught}, own, (name, node.lineno))
+                if isinstance(node, ast.Raise):
+                    self.assertIn(node.exc.func.id, own, (name, node.lineno))
+
+    def test_strings_with_braces(self):
+        for name, tree in trees():
+            for node in ast.walk(tree):
+                if isinstance(node, ast.JoinedStr):
+                    self.assertEqual(node.lineno, node.end_lineno, name)
+                if isinstance(node, ast.FormattedValue):
+                    self.assertEqual((node.conversion, node.format_spec), (-1, None), (name, node.lineno))
+                    self.assertFalse([one for one in ast.walk(node.value) if isinstance(one, ast.Constant)], name)
+
+    def test_no_name_is_a_method_and_an_attribute(self):
+        methods, attributes = set(), set()
+        for name, tree in trees():
+            for node in ast.walk(tree):
+                if isinstance(node, ast.ClassDef):
+                    methods |= {one.name for one in node.body if isinstance(one, ast.FunctionDef)}
+                if isinstance(node, ast.Attribute) and isinstance(node.ctx, ast.Store):
+                    attributes.add(node.attr)
+        self.assertEqual(methods & attributes, set())
 
     def test_module_level_and_classes(self):
         for name, tree in trees():

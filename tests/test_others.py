@@ -4,7 +4,7 @@ import unittest
 
 from tests.tools import (
     NO_OBJECTS, ToolCase, all_rows, drawn_table, house, is_slow_unswayed, letters, many_houses, mild_houses,
-    slow_product, slow_rank, slow_sum, small_houses, some_poly, trivial)
+    slow_product, slow_put, slow_rank, slow_sum, small_houses, some_poly, trivial)
 from unswayed.degrees import count_of, unswayed_of
 from unswayed.freelots import free_lot
 from unswayed.houses import house_led, is_mild
@@ -21,19 +21,6 @@ X, Y = letters(5, 2)
 XX, YY, XY = poly_product(X, X), poly_product(Y, Y), poly_product(X, Y)
 SHEAR = small_houses()["shear 3 2"]
 SHEAR_LOT = free_lot(SHEAR)
-
-
-def slow_put(poly, lot):
-    """put_in, one factor after another."""
-    wide = lot[0].wide
-    total = Poly(poly.prime, wide, {})
-    for row, number in poly.terms.items():
-        part = Poly(poly.prime, wide, {(0,) * wide: number})
-        for exponent, factor in zip(row, lot):
-            for _ in range(exponent):
-                part = slow_product(part, factor)
-        total = slow_sum(total, part)
-    return total
 
 
 def slow_told(told, lot, several):

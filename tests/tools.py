@@ -258,6 +258,19 @@ def slow_led(poly, one):
     return total
 
 
+def slow_put(poly, lot):
+    """put_in, one factor after another."""
+    wide = lot[0].wide
+    total = Poly(poly.prime, wide, {})
+    for row, number in poly.terms.items():
+        part = Poly(poly.prime, wide, {(0,) * wide: number})
+        for exponent, factor in zip(row, lot):
+            for _ in range(exponent):
+                part = slow_product(part, factor)
+        total = slow_sum(total, part)
+    return total
+
+
 def form_poly(prime, form):
     wide = len(form)
     return Poly(prime, wide, {tuple(int(k == at) for k in range(wide)): form[at] for at in range(wide)})

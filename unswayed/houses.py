@@ -24,7 +24,9 @@ class House:
             raise BadHouse("wide")
         if not is_list(tables) or not all([is_house_table(item, prime, wide) for item in tables]):
             raise BadHouse("tables")
-        lots = sorted(all_products([table.lines for table in tables], wide, prime))
+        # Tables that others make already would only take time.
+        needed = few_of([table.lines for table in tables], wide, prime)
+        lots = sorted(all_products(needed, wide, prime))
         self.prime = prime
         self.wide = wide
         self.tables = tuple([Table(prime, wide, wide, lines) for lines in lots])
@@ -61,13 +63,13 @@ def all_products(few, wide, prime):
 
 
 def few_of(lots, wide, prime):
-    """Of all tables of a house, ascending, those that are no products of earlier ones of them."""
+    """Of some tables, told by their lines, those that are no products of earlier ones of them."""
     few = []
-    made = all_products(few, wide, prime)
+    made = {plain_lines(wide): True}
     for lines in lots:
         if lines not in made:
             few.append(lines)
-            made = all_products(few, wide, prime)
+            made = {product: True for product in all_products(few, wide, prime)}
     return few
 
 

@@ -1,9 +1,10 @@
 """Inner houses: houses whose tables are all among those of another one."""
 
 from unswayed.errors import BadHouse, BadInner, TooMany
-from unswayed.houses import House, check_house, house_led
+from unswayed.houses import House, check_house
 from unswayed.kinds import point_of
 from unswayed.leadings import check_house_poly, led, point_moved
+from unswayed.spots import made_spots, plain_spot, product_spots
 from unswayed.tables import Table, lines_product
 
 MOST_INNER = 24
@@ -57,38 +58,56 @@ def point_keeper(house, point):
 
 def inner_houses(house):
     """The list of all inner houses, those of fewer tables first, then by the lines of their tables."""
+    check_few_tables(house)
+    return [house_at(house, spots) for spots in inner_spots(house, product_spots(house))]
+
+
+def check_few_tables(house):
+    """TooMany(24) if a House has more tables than all inner houses are looked at for."""
     check_house(house)
     if house.size > MOST_INNER:
         raise TooMany(MOST_INNER)
+
+
+def house_at(house, spots):
+    """The House of the tables at these spots."""
+    return House(house.prime, house.wide, [house.tables[spot] for spot in spots])
+
+
+def inner_spots(house, products):
+    """The tuples of the spots of the tables of all inner houses, in the sequence of inner_houses."""
+    start = plain_spot(house)
     # Each inner house is joined of some that one table alone makes.
-    single = {}
-    for table in house.tables:
-        made = House(house.prime, house.wide, [table])
-        single[lines_of(made)] = made
-    found = {key: single[key] for key in single}
-    queue = list(found.values())
+    singles = {made_spots(products, start, [spot]): spot for spot in range(house.size)}
+    few = {spots: [spot] for spots, spot in singles.items()}
+    queue = list(few)
     at = 0
     while at < len(queue):
-        for one in list(single.values()):
-            if not is_inner(queue[at], one):
-                made = joined_house(queue[at], one)
-                if lines_of(made) not in found:
-                    found[lines_of(made)] = made
+        for spot in list(singles.values()):
+            if spot not in queue[at]:
+                joined = few[queue[at]] + [spot]
+                made = made_spots(products, start, joined)
+                if made not in few:
+                    few[made] = joined
                     queue.append(made)
         at += 1
-    keys = sorted([(len(key), key) for key in found])
-    return [found[key] for _, key in keys]
+    # Tables ascend by their lines, so that lots of them ascend as the tuples of their spots do.
+    return [spots for _, spots in sorted([(len(spots), spots) for spots in queue])]
 
 
 def inner_classes(house):
     """The inner houses in lists of those that tables of the house lead to one another."""
-    left = {lines_of(one): one for one in inner_houses(house)}
+    check_few_tables(house)
+    products = product_spots(house)
+    start = plain_spot(house)
+    pairs = [(spot, row.index(start)) for spot, row in enumerate(products)]
+    left = inner_spots(house, products)
     classes = []
     while left:
-        first = list(left.values())[0]
-        led_there = {lines_of(house_led(first, table)): True for table in house.tables}
-        classes.append([left[key] for key in left if key in led_there])
-        left = {key: left[key] for key in left if key not in led_there}
+        led_there = {
+            tuple(sorted([products[products[spot][inner]][back] for inner in left[0]])): True for spot, back in pairs}
+        classes.append([house_at(house, spots) for spots in left if spots in led_there])
+        left = [spots for spots in left if spots not in led_there]
     return classes
 
 

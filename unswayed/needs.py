@@ -17,6 +17,8 @@ class Needs:
         self.levels = Levels(house.prime, house.wide, most)
         self.spaces = Spaces(house, plain_toll(house))
         self.degree = 0
+        # What products of makers of lower degrees make of the present degree.
+        self.made = Echelon(house.prime, 1)
         # Pairs of the degree and the great number.
         self.makers = []
         # For each degree the great numbers of the tidy list.
@@ -26,17 +28,28 @@ class Needs:
         """Goes on to the next degree."""
         self.degree = self.degree + 1
         rows = self.spaces.of(self.degree)
-        echelon = Echelon(self.levels.prime, row_count(self.levels.wide, self.degree))
+        made = Echelon(self.levels.prime, row_count(self.levels.wide, self.degree))
         pairs = [(maker, whole) for degree, maker in self.makers for whole in self.wholes[self.degree - degree]]
         for maker, whole in pairs:
             # As soon as all unswayed Polys of this degree are made, nothing more can come of products.
-            if len(echelon.spots) == len(rows):
+            if len(made.spots) == len(rows):
                 break
-            echelon.put(self.levels.unpack(maker * whole, self.degree))
+            made.put(self.levels.unpack(maker * whole, self.degree))
         wholes = [self.levels.pack(row, self.degree) for row in rows]
-        needed = [(self.degree, whole) for row, whole in zip(rows, wholes) if echelon.put(row)]
+        more = made.another()
+        needed = [(self.degree, whole) for row, whole in zip(rows, wholes) if more.put(row)]
+        self.made = made
         self.makers = self.makers + needed
         self.wholes.append(wholes)
+
+    def lacking(self):
+        """How many Polys are needed at the present degree."""
+        return len([degree for degree, _ in self.makers if degree == self.degree])
+
+    def chosen(self, items):
+        """Those of some unswayed Polys of the present degree that are independent of one another and of products."""
+        made = self.made.another()
+        return [item for item in items if made.put(self.levels.numbers_of(item, self.degree))]
 
     def polys(self):
         """The needed Polys."""
