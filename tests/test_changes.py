@@ -1,12 +1,13 @@
 """Point [130], unswayed/changes.py."""
 
 import itertools
+import random
 import unittest
 
 from tests.tools import (
     NO_OBJECTS, ToolCase, all_points, drawn_table, house, letters, many_houses, signed, slow_determinant, slow_order, slow_rank,
     slow_times, slow_undone, small_houses, some_points, table, trivial)
-from unswayed.changes import change, is_change, sign_of, signs_of, what_parts
+from unswayed.changes import change, factors_with_inverse, is_change, sign_of, signs_of, unlike_count, what_parts
 from unswayed.degrees import count_of, unswayed_of
 from unswayed.houses import House, house_led
 from unswayed.inner import inner_houses, keeper
@@ -191,6 +192,34 @@ class ChangeTest(ToolCase):
                 self.assertIs(is_change(one, other, t), False)
 
 
+class FactorsTest(ToolCase):
+    def test_by_trying_all(self):
+        """Whether some sum of multiples of a few tables has an inverse, over small fields, where many have none."""
+        chance = random.Random("factors")
+        seen = []
+        for _ in range(400):
+            prime, size, many = chance.choice((2, 2, 3, 3, 5)), chance.choice((2, 3)), chance.randrange(4)
+            spots = [chance.sample(range(size * size), chance.randrange(1, size * size)) for _ in range(many)]
+            rows = [[chance.randrange(prime) if at in lot else 0 for at in range(size * size)] for lot in spots]
+            found = factors_with_inverse(prime, size, rows)
+            dets = {}
+            for factors in itertools.product(range(prime), repeat=many):
+                numbers = [sum(f * n for f, n in zip(factors, column)) for column in zip(*rows)] or [0] * size * size
+                dets[factors] = slow_determinant([numbers[at * size:(at + 1) * size] for at in range(size)]) % prime
+            self.assertEqual(found is None, not any(dets.values()))
+            self.assertTrue(found is None or dets[tuple(found)])
+            seen.append(found is None)
+        self.assertTrue(50 < sum(seen) < 350)
+        # Not 0 as a polynomial, but at all points: a * b * (a + b) over 2.
+        rows = [[1, 0, 0, 0, 0, 0, 0, 0, 1], [0, 0, 0, 0, 1, 0, 0, 0, 1]]
+        self.assertIsNone(factors_with_inverse(2, 3, rows))
+        self.assertIsNotNone(factors_with_inverse(3, 3, rows))
+        # a * a * b + a * b * b + c over 2: with a and b alone it is 0 everywhere.
+        rows = [[1, 0, 0, 0, 0, 0, 0, 0, 1], [0, 0, 0, 0, 1, 0, 0, 0, 1], [0, 1, 0, 0, 0, 1, 1, 0, 0]]
+        self.assertEqual(slow_determinant([[1, 1, 0], [0, 1, 1], [1, 0, 0]]) % 2, 1)
+        self.assertIsNotNone(factors_with_inverse(2, 3, rows))
+
+
 class IsChangeTest(ToolCase):
     def test_any_value(self):
         one = SIGNED
@@ -227,6 +256,8 @@ class WhatPartsTest(ToolCase):
                     told = what_parts(one, other)
                     signs = [slow_sign(each) for each in one.tables], [slow_sign(each) for each in other.tables]
                     apart = [s for s in sorted(set(signs[0] + signs[1])) if signs[0].count(s) != signs[1].count(s)]
+                    # Mild houses of the same signs have the same counts.
+                    self.assertFalse(one.size % one.prime and told and told[0] == "degree")
                     if apart:
                         self.assertEqual(told, ("sign", apart[0], signs[0].count(apart[0]), signs[1].count(apart[0])))
                     else:
@@ -242,6 +273,15 @@ class WhatPartsTest(ToolCase):
         other = House(7, 2, [across(each) for each in one.tables])
         self.assertEqual(what_parts(one, other), ("degree", 3, 1, 0))
         self.assertEqual([[count_of(each, d) for d in (1, 2, 3)] for each in (one, other)], [[0, 0, 1], [0, 0, 0]])
+
+        one = house(7, [[1, 1, 0], [0, 1, 0], [0, 0, 1]], [[3, 0, 0], [0, 6, 0], [0, 0, 5]])
+        other = house(7, [[1, 1, 0], [0, 1, 0], [0, 0, 1]], [[6, 0, 0], [0, 3, 0], [0, 0, 5]])
+        self.assertEqual((one.size, what_parts(one, other)), (42, ("degree", 4, 2, 1)))
+        self.assertEqual([[count_of(each, d) for d in range(1, 5)] for each in (one, other)], [[0, 1, 0, 2], [0, 1, 0, 1]])
+        # Degrees from 1 to 6 are looked at, no others.
+        self.assertEqual(unlike_count(house(13, [[4]]), house(13, [[2]])), (6, 1, 0))
+        self.assertIsNone(unlike_count(house(17, [[2]]), house(17, [[3]])))
+        self.assertEqual(unlike_count(trivial(5, 2), H), (1, 2, 0))
 
     def test_changes(self):
         for one, other in UNLIKE:

@@ -6,16 +6,17 @@ import unittest
 from tests.test_makers import H, LOT, SHEAR, SHEAR_LOT, X, XX, XY, Y, YY, degrees_of, lots_of_mild
 from tests.tools import (
     NO_OBJECTS, ToolCase, drawn_table, house, letters, many_houses, slow_product, slow_put, slow_rank, slow_sum, some_poly,
-    trivial)
+    telling_of, trivial)
 from unswayed.degrees import count_of
 from unswayed.equations import are_equations, equations_of, followed
 from unswayed.families import family_house
 from unswayed.familylots import family_lot, family_others
-from unswayed.houses import house_led, is_mild
+from unswayed.houses import house_beside, house_led, is_mild
 from unswayed.leadings import led
 from unswayed.makers import makers_of
 from unswayed.others import others_of
 from unswayed.polys import Poly, constant, poly_power, poly_product, poly_scaled, poly_sum
+from unswayed.putting import put_in
 from unswayed.solving import inverse
 from unswayed.tables import plain
 
@@ -165,14 +166,25 @@ class EquationsTest(ToolCase):
                 rows = [len(weighed_rows(makers, weight)) for weight in range(most + 1)]
                 self.assertTrue(max(rows) > 300 or one.wide == 3 and most > 23, word)
                 self.assertEqual(max(rows) > 300, word[1] == 31)
-        # Just below: 241 rows of a weight, up to the weight 20.
-        word = ("weights", 11, 10, (1, 4, 4))
-        one, lot = family_house(word), family_lot(word)
-        makers = makers_of(one, lot)
-        self.assertEqual(len(makers), 12)
-        found = equations_of(one, lot, makers)
-        self.assertIs(are_equations(one, lot, makers, found), True)
-        self.assertTrue(all(slow_put(each, makers).terms == {} for each in found))
+        # Weights up to 20 and up to 24, twice the degree of others, in 3 unknowns; the size is greater.
+        for order, told in ((4, None), (5, ("TooMany", 300))):
+            word = ("twin", 2 * order + 1 if order == 5 else 7, order)
+            plane = family_lot(word)
+            one = house_beside(trivial(word[1], 1), family_house(word))
+            x, y, z = letters(word[1], 3)
+            lot = [x] + [put_in(poly, [y, z]) for poly in plane]
+            self.assertEqual((others_of(one, lot)[-1].degree, one.size), (2 * order + 2, 4 * order))
+            makers = makers_of(one, lot)
+            self.assertEqual(telling_of(equations_of, one, lot, makers), told)
+        # Just below: 241 rows of the weight 20, 283 of the weight 84.
+        for word, many in ((("weights", 11, 10, (1, 4, 4)), 12), (("weights", 43, 42, (1, 29)), 7)):
+            one, lot = family_house(word), family_lot(word)
+            makers = makers_of(one, lot)
+            self.assertEqual(len(makers), many)
+            found = equations_of(one, lot, makers)
+            self.assertIs(are_equations(one, lot, makers, found), True)
+            self.assertIs(are_equations(one, lot, makers, found[:-1]), False)
+            self.assertTrue(all(slow_put(each, makers).terms == {} for each in found))
 
 
 class AreEquationsTest(ToolCase):

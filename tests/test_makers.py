@@ -243,6 +243,7 @@ class WrittenTest(ToolCase):
         for thing in NO_OBJECTS:
             self.refused(("BadPoly",), written, SHEAR, None, None, thing)
             self.refused(("BadHouse", None), written, plain(5, 2), None, None, thing)
+            self.refused(("BadHouse", None), written, thing, LOT, [XX], X)
             self.refused(("BadMakers",), written, H, LOT, thing, letters(3, 3)[0])
         for wrong in ([XX, YY], [XX, XY, YY, X], (), [constant(5, 2, 1), XX, XY, YY]):
             self.refused(("BadMakers",), written, H, LOT, wrong, letters(3, 3)[0])

@@ -182,6 +182,7 @@ class AsPowerSumsTest(ToolCase):
             self.refused(("BadHouse", None), as_power_sums, thing, X)
             self.refused(("BadPoly",), as_power_sums, SHEAR, thing)
             self.refused(("BadHouse", None), as_power_sums, plain(5, 2), X)
+            self.refused(("BadHouse", None), as_power_sums, thing, None)
         self.refused(("NoMean",), as_power_sums, SHEAR, X)
         for poly in (letters(3, 2)[0], letters(5, 3)[0], poly_sum(XX, poly_power(XX, 60)), poly_sum(X, XX), poly_sum(XX, constant(5, 2, 1))):
             self.refused(("BadPoly",), as_power_sums, H, poly)

@@ -160,6 +160,29 @@ class StepTest(ToolCase):
                     less = polys[:-1] + (poly_sum(polys[0], polys[-2]),)
                     self.assertIs(is_step(one, inner, less), False, name)
 
+    def test_a_step_is_independent_over_the_unswayed_polys(self):
+        """Products of Polys and unswayed ones are independent exactly if the Polys make a step."""
+        seen = set()
+        for name in ("signed 5 2", "minus 5 2", "shear 3 2", "all 2 2", "cycle 2 3", "exchanges 5 3", "special 3 2", "planes 2 3"):
+            one = many_houses()[name]
+            for inner in inner_houses(one):
+                index = index_of(one, inner)
+                if index in (2, 3):
+                    kept = kept_polys(inner, 9, 4)
+                    for polys in itertools.islice(itertools.combinations(kept, index), 0, 30, 5):
+                        step = step_poly(one, inner, polys)
+                        # Where there is no step, the minors of one line less tell a sum that is 0, of these degrees.
+                        most = sum(poly.degree for poly in polys)
+                        products = [
+                            slow_product(poly, each) for poly in polys for degree in range(most + 4 - poly.degree)
+                            for each in unswayed_of(one, degree)]
+                        rows = sorted({row for each in products for row in each.terms})
+                        rank = slow_rank([[each.terms.get(row, 0) for row in rows] for each in products], one.prime)
+                        self.assertEqual(rank == len(products), step.terms != {}, name)
+                        self.assertIs(is_step(one, inner, list(polys)), step.terms != {})
+                        seen.add((index, step.terms != {}))
+        self.assertEqual(seen, set(itertools.product((2, 3), (True, False))))
+
     def test_index_6_and_above(self):
         six = house(7, [[3]])
         t = Poly(7, 1, {(1,): 1})

@@ -35,8 +35,7 @@ def signs_of(house):
 def is_change(one, other, thing):
     """Whether any value is a change from one House to the other one."""
     check_houses(one, other)
-    return (isinstance(thing, Table) and is_house_table(thing, one.prime, one.wide)
-            and house_led(one, thing) == other)
+    return is_house_table(thing, one.prime, one.wide) and house_led(one, thing) == other
 
 
 def change(one, other):

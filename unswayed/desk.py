@@ -78,10 +78,10 @@ def told_more(live, word, rest):
 
 def told_leads(live, rest):
     """Whether the house leads one point to another one; None if these are not two points with "to" between."""
-    one, word, other = rest.partition(" to ")
+    one, _, other = rest.partition(" to ")
     start = numbers_of(one, live.wide, live.prime - 1)
     goal = numbers_of(other, live.wide, live.prime - 1)
-    if not word or start is None or goal is None:
+    if start is None or goal is None:
         return None
     return yes_or_no(leading(live.house, start, goal) is not None)
 

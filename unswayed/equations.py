@@ -2,7 +2,7 @@
 
 from unswayed.cycles import far_count, plain_toll
 from unswayed.echelons import Echelon
-from unswayed.errors import BadEquations, BadMakers, BadPoly, TooMany
+from unswayed.errors import BadEquations, BadMakers, TooMany
 from unswayed.houses import check_house
 from unswayed.kinds import is_list
 from unswayed.levels import told_in
@@ -109,14 +109,11 @@ def followed(house, lot, makers, several, poly):
     check_poly(poly)
     if not are_equations(house, lot, makers, several):
         raise BadEquations("weighed equations that tell all are wanted")
-    if poly.prime != house.prime or poly.wide != len(makers):
-        raise BadPoly("a Poly of the house's prime, in as many unknowns as makers, is wanted")
-    weights = weights_of(makers)
-    found = sorted({weight_of_row(weights, row): True for row in poly.terms})
-    if max(found, default=0) > MOST_DEGREE:
-        raise TooMany(MOST_DEGREE)
+    # BadPoly, and TooMany(120) for weights above 120, are those of put_in.
     if not is_equation(makers, poly):
         return None
+    weights = weights_of(makers)
+    found = sorted({weight_of_row(weights, row): True for row in poly.terms})
     for weight in found:
         check_weight(weights, weight)
     terms = [{} for _ in several]

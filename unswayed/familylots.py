@@ -4,12 +4,10 @@ from math import lcm
 
 from unswayed.cycles import far_count, gathered, lessened, picked
 from unswayed.degrees import unswayed_of
-from unswayed.errors import TooMany
 from unswayed.families import family_house, family_size, turn_for
 from unswayed.leadings import check_house_poly, lot_product
 from unswayed.lotwork import check_layers, told_by_lot
 from unswayed.others import check_unswayed
-from unswayed.packs import MOST_DEGREE
 from unswayed.polys import Poly, check_poly, constant, letter, poly_power, poly_product, poly_sum
 from unswayed.rowsfar import check_far_degree
 from unswayed.slopes import slope_determinant
@@ -86,26 +84,17 @@ def family_others(word):
     family_size(word)
     name, prime = word[0], word[1]
     if name == "weights":
-        rows = weight_rows(word)
-        if max([sum(row) for row in rows]) > MOST_DEGREE:
-            raise TooMany(MOST_DEGREE)
-        return [row_poly(prime, row) for row in rows]
+        # TooMany(120) for a sum above 120 is that of the Poly.
+        return [row_poly(prime, row) for row in weight_rows(word)]
     if name == "even" and word[2] == 3:
         return [constant(prime, 3, 1), Poly(prime, 3, {(2, 1, 0): 1, (0, 2, 1): 1, (1, 0, 2): 1})]
     if name == "twin":
         form = kept_form(word)
         slopes = slope_determinant([form, twin_lot(word)[1]])
         return [constant(prime, 2, 1), poly_product(form, slopes)]
-    return [constant(prime, word_wide(word), 1)]
-
-
-def word_wide(word):
-    """How many unknowns the house of a family word has."""
-    if word[0] == "turns":
-        return len(word[2])
-    if word[0] == "weights":
-        return len(word[3])
-    return 2 if word[0] in ("round", "twin") else word[2]
+    if name == "turns":
+        return [constant(prime, len(word[2]), 1)]
+    return [constant(prime, 2 if name == "round" else word[2], 1)]
 
 
 def weight_rows(word):

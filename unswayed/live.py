@@ -1,10 +1,10 @@
 """A live house: tables are put, taken and turned, and what is watched is told at any time."""
 
 from unswayed.changes import change
-from unswayed.errors import BadDeed, BadHouse, BadName, BadNumber, BadPoly, BadTable, NoMark, NothingLeft, NoWatch
-from unswayed.houses import MOST_WIDE, House, is_house_table
+from unswayed.errors import BadDeed, BadName, BadNumber, BadPoly, BadTable, NoMark, NothingLeft, NoWatch
+from unswayed.houses import House, is_house_table
 from unswayed.inner import index_of, is_inner
-from unswayed.kinds import check_prime, is_number, is_within, point_of
+from unswayed.kinds import is_number, is_within, point_of
 from unswayed.leadings import led_lot, orbit_of
 from unswayed.polys import Poly
 from unswayed.solving import inverse
@@ -38,13 +38,11 @@ class LiveHouse:
     """The house that some tables, its makers, make; they change by deeds, which can be taken back."""
 
     def __init__(self, prime, wide):
-        check_prime(prime)
-        if not is_within(wide, 1, MOST_WIDE):
-            raise BadHouse("wide")
+        # BadPrime and BadHouse("wide") are those of the House.
+        self.house = House(prime, wide, [])
         self.prime = prime
         self.wide = wide
         self.makers = ()
-        self.house = House(prime, wide, [])
         self.standing = 0
         self._done = []
         # The makers and the house ahead of each deed done, and what is done by each deed taken back, the last one last.
@@ -58,7 +56,7 @@ class LiveHouse:
         if not is_deed(deed):
             raise BadDeed("a deed is wanted")
         makers = makers_behind(self, deed)
-        house = House(self.prime, self.wide, makers)
+        house = House(self.prime, self.wide, unlike_tables(makers))
         self._undone = []
         self._step_to(deed, makers, house)
 
@@ -153,6 +151,11 @@ def makers_behind(live, deed):
         return live.makers + (thing,)
     back = inverse(thing)
     return tuple([times(times(thing, maker), back) for maker in live.makers])
+
+
+def unlike_tables(tables):
+    """The list of the tables, each once: there may be many makers, but few of them are unlike."""
+    return list({table.lines: table for table in tables}.values())
 
 
 def told_of(house, watched):

@@ -1,11 +1,9 @@
 """Polynomials that one house leaves as they are and another one does not."""
 
 from unswayed.climbs import house_climb
-from unswayed.errors import TooMany
 from unswayed.freelots import is_level_unswayed
 from unswayed.inner import check_houses, is_inner
 from unswayed.leadings import is_unswayed
-from unswayed.packs import MOST_ROWS
 from unswayed.partings import climb_on, dot
 
 
@@ -15,14 +13,14 @@ def lot_parting(one, other):
         return None
     climb = house_climb(one, 0)
     swayed = house_climb(other, 0)
-    while climb.degree < one.size:
+    # There is one of a degree at most the size of one.
+    while True:
         climb_on(climb)
         swayed.up()
         equations = swayed.equations()
         for numbers in climb.unswayed():
             if any([dot(equation, numbers) % one.prime for equation in equations]):
                 return climb.poly(numbers)
-    raise TooMany(MOST_ROWS)
 
 
 def is_lot_parting(one, other, thing):

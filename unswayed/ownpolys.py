@@ -106,22 +106,24 @@ class Mixture:
         self.prime = prime
         self.pairs = pairs
         self.parts = []
-        # For each house and each degree an Echelon of the numbers by which it sways the Polys.
-        self.echelons = [{} for _ in pairs]
+        # For the spot of each house and each degree an Echelon of the numbers by which it sways the Polys.
+        self.echelons = {}
 
     def put(self, offered):
         """Takes one more Poly."""
         _, degree, gaps = offered
         self.parts.append(offered)
-        for echelons, gap in zip(self.echelons, gaps):
-            if degree not in echelons:
-                echelons[degree] = Echelon(self.prime, len(gap))
-            echelons[degree].put(gap)
+        for spot, gap in enumerate(gaps):
+            if (spot, degree) not in self.echelons:
+                self.echelons[(spot, degree)] = Echelon(self.prime, len(gap))
+            self.echelons[(spot, degree)].put(gap)
 
     def number(self):
         """How many sums of multiples no greater house leaves as they are."""
-        ranks = [sum([len(echelon.spots) for echelon in echelons.values()]) for echelons in self.echelons]
-        return signed_total(self.pairs, self.prime, [len(self.parts) - rank for rank in ranks])
+        counts = [len(self.parts)] * len(self.pairs)
+        for (spot, _), echelon in self.echelons.items():
+            counts[spot] -= len(echelon.spots)
+        return signed_total(self.pairs, self.prime, counts)
 
     def first_factors(self):
         """The first factors, none of them 0, whose sum of multiples no greater house leaves as it is."""
@@ -135,7 +137,7 @@ class Mixture:
 
     def sways(self, spot, factors):
         """Whether the house with the index spot does not leave the sum of multiples as it is."""
-        for degree in self.echelons[spot]:
+        for degree in sorted({at: True for _, at, _ in self.parts}):
             lots = [[factor * number for number in gaps[spot]]
                     for factor, (_, at, gaps) in zip(factors, self.parts) if at == degree]
             if any([sum(column) % self.prime for column in zip(*lots)]):

@@ -106,8 +106,6 @@ def step_told(house, inner, polys, poly):
         raise NoStep("the Polys make no step")
     others = list(polys)
     steps = [step_of(house, tables, others[:at] + [poly] + others[at + 1:]) for at in range(len(others))]
-    if step.degree + max([other.degree for other in steps]) > MOST_DEGREE:
-        raise TooMany(MOST_DEGREE)
     return [poly_product(step, other) for other in steps]
 
 

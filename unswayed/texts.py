@@ -73,7 +73,7 @@ def poly_of_text(text):
     if head is None:
         raise BadText(0)
     prime, wide = head
-    rows = [numbers_of(part, wide + 1, max(prime - 1, MOST_DEGREE)) for part in parts[1:]]
+    rows = [numbers_of(part, wide + 1, MOST_DEGREE) for part in parts[1:]]
     if not all([is_term_row(row, prime) for row in rows]):
         raise BadText(0)
     keys = [tuple(row[1:]) for row in rows]
