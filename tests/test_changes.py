@@ -214,10 +214,12 @@ class FactorsTest(ToolCase):
         rows = [[1, 0, 0, 0, 0, 0, 0, 0, 1], [0, 0, 0, 0, 1, 0, 0, 0, 1]]
         self.assertIsNone(factors_with_inverse(2, 3, rows))
         self.assertIsNotNone(factors_with_inverse(3, 3, rows))
-        # a * a * b + a * b * b + c over 2: with a and b alone it is 0 everywhere.
-        rows = [[1, 0, 0, 0, 0, 0, 0, 0, 1], [0, 0, 0, 0, 1, 0, 0, 0, 1], [0, 1, 0, 0, 0, 1, 1, 0, 0]]
-        self.assertEqual(slow_determinant([[1, 1, 0], [0, 1, 1], [1, 0, 0]]) % 2, 1)
-        self.assertIsNotNone(factors_with_inverse(2, 3, rows))
+        # a * b * (a + b) + c * c * c over 2: where c is 0 it is 0 everywhere.
+        rows.append([0, 1, 0, 0, 0, 1, 1, 0, 0])
+        for lot in itertools.permutations(rows):
+            found = factors_with_inverse(2, 3, list(lot))
+            numbers = [sum(f * n for f, n in zip(found, column)) for column in zip(*lot)]
+            self.assertEqual(slow_determinant([numbers[:3], numbers[3:6], numbers[6:]]) % 2, 1)
 
 
 class IsChangeTest(ToolCase):
@@ -280,7 +282,8 @@ class WhatPartsTest(ToolCase):
         self.assertEqual([[count_of(each, d) for d in range(1, 5)] for each in (one, other)], [[0, 1, 0, 2], [0, 1, 0, 1]])
         # Degrees from 1 to 6 are looked at, no others.
         self.assertEqual(unlike_count(house(13, [[4]]), house(13, [[2]])), (6, 1, 0))
-        self.assertIsNone(unlike_count(house(17, [[2]]), house(17, [[3]])))
+        self.assertEqual([house(29, [[k]]).size for k in (16, 4)], [7, 14])
+        self.assertIsNone(unlike_count(house(29, [[16]]), house(29, [[4]])))
         self.assertEqual(unlike_count(trivial(5, 2), H), (1, 2, 0))
 
     def test_changes(self):

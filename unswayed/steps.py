@@ -106,6 +106,7 @@ def step_told(house, inner, polys, poly):
         raise NoStep("the Polys make no step")
     others = list(polys)
     steps = [step_of(house, tables, others[:at] + [poly] + others[at + 1:]) for at in range(len(others))]
+    # TooMany(120) for one of these products is that of poly_product.
     return [poly_product(step, other) for other in steps]
 
 
